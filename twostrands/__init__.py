@@ -1,0 +1,1 @@
+"""Which go together: two strands, found from readings of either of them."""
