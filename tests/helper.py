@@ -34,6 +34,30 @@ def sides():
     return [6]
 
 
+def tie(i, j):
+    return [7, i, j]
+
+
+def placed(i):
+    return [8, i]
+
+
+def blocks():
+    return [9]
+
+
+def thrown():
+    return [10]
+
+
+def cost(a, b):
+    return [11, len(a)] + list(a) + [len(b)] + list(b)
+
+
+def shows():
+    return [12]
+
+
 def joined(calls):
     return [number for call in calls for number in call]
 

@@ -7,12 +7,15 @@ import sys
 import unittest
 from unittest import mock
 
-from tests.helper import TOP, best, drop, joined, known, nth, read, sides, split, start
+from tests.helper import (TOP, best, blocks, cost, drop, joined, known, nth, placed, read, shows, sides, split, start,
+                          thrown, tie)
 from twostrands.desk import answers
 
 MANY = joined([
     start(3), known(1, 2), read((0, 0, 5), (1, 1, 3)), read((1, 0, 2), (2, 1, 99)), best(), nth(0), nth(TOP), sides(),
-    read(), drop(1), drop(1), start(7), known(3, 0), best(), start(2), sides(), best(),
+    tie(0, 1), tie(2, 2), placed(1), placed(3), blocks(), thrown(), cost([0, 1, 0], [1, 1, 1]), cost([], [TOP]),
+    shows(), known(0, 1), thrown(), tie(0, 1),
+    read(), drop(1), drop(1), start(7), known(3, 0), best(), start(2), sides(), best(), shows(),
 ])
 
 
@@ -37,6 +40,16 @@ class HowItIsWritten(unittest.TestCase):
         self.assertEqual(answers([5, 5]), [4, 0, 1, 1, 0])
         self.assertEqual(answers([6]), [1, 0])
         self.assertEqual(answers([2, 3, 0, 1, 4, 6]), [1, 1, 4, 1, 1, 1, 0])
+        self.assertEqual(answers([7, 0, 1]), [4, 1, 0, 1, 0])
+        self.assertEqual(answers([1, 0, 1, 7, 0, 1]), [1, 1, 2, 0, 0])
+        self.assertEqual(answers([8, 1]), [6, 1, 0, 1, 0, 1, 0])
+        self.assertEqual(answers([1, 1, 2, 8, 1]), [1, 2, 4, 0, 0, 1, 0])
+        self.assertEqual(answers([9]), [5, 2, 1, 0, 1, 1])
+        self.assertEqual(answers([10]), [1, 0])
+        self.assertEqual(answers([1, 0, 0, 2, 3, 0, 1, 7, 10]), [1, 0, 1, 1, 2, 1, 1])
+        self.assertEqual(answers([11, 2, 0, 1, 2, 1, 1]), [1, 0])
+        self.assertEqual(answers([12]), [3, 3, 3, 0])
+        self.assertEqual(answers([2, 6, 1, 0, 9, 0, 1, 8, 12]), [1, 1, 11, 3, 3, 1, 1, 2, 1, 0, 9, 0, 1, 8])
 
     def test_a_refusal_is_one_number_alone(self):
         self.assertEqual(answers([0, 0]), [1, -1])
@@ -44,6 +57,9 @@ class HowItIsWritten(unittest.TestCase):
         self.assertEqual(answers([2, 0]), [1, -1])
         self.assertEqual(answers([3, 0]), [1, -3])
         self.assertEqual(answers([5, 10]), [1, -3])
+        self.assertEqual(answers([7, 0, 0]), [1, -1])
+        self.assertEqual(answers([8, 2]), [1, -1])
+        self.assertEqual(answers([11, 0, 0]), [1, -1])
         self.assertEqual(answers([2, 3, 0, 0, 1] * 11)[-2:], [1, -5])
 
     def test_calls_stand_one_behind_another(self):
@@ -55,12 +71,37 @@ class HowItIsWritten(unittest.TestCase):
         # The marks would read as calls of their own: start, known, best.
         self.assertEqual(answers([2, 6, 0, 5, 1, 0, 2, 4, 4]), [1, -1, 6, 0, 10, 0, 0, 0, 0])
         self.assertEqual(answers([2, 36] + [0] * 36 + [6]), [1, -1, 1, 0])
+        self.assertEqual(answers([11, 3, 0, 5, 9, 1, 12, 10]), [1, -1, 1, 0])
+        self.assertEqual(answers([11, 10] + [TOP] * 10 + [10] + [4] * 10 + [12]), [1, -1, 3, 3, 3, 0])
+        self.assertEqual(answers([11, 0, 2, 0, 1, 12]), [1, -1, 3, 3, 3, 0])
+        self.assertEqual(answers([11, 2, 0, 1, 0, 12]), [1, -1, 3, 3, 3, 0])
 
     def test_the_longest_lists(self):
         calls = [0, 6] + ([2, 36] + [4] * 36) * 39
         self.assertEqual(answers(calls), [1, 6] + [1, -1] * 39)
         self.assertEqual(len(split(answers([4] * 40))), 40)
         self.assertEqual(len(split(answers([0, 6] + [4] * 39))), 40)
+        self.assertEqual(answers(([11, 10] + [1] * 10 + [10] + [0] * 10) * 40), [1, -1] * 40)
+
+    def test_the_greatest_numbers(self):
+        calls = [start(TOP), known(TOP, TOP), read((TOP, TOP, TOP)), drop(TOP), nth(TOP), tie(TOP, TOP), placed(TOP),
+                 cost([TOP] * 2, [TOP] * 2), cost([TOP] * 10, [TOP] * 10), shows()]
+        self.assertEqual(split(answers(joined(calls))),
+                         [[-1], [-1], [-1], [-3], [-3], [-1], [-1], [-1], [-1], [3, 3, 0]])
+
+    def test_no_number_is_below_0_but_a_refusal(self):
+        for part in split(answers(MANY)):
+            self.assertTrue(min(part) >= 0 or part in ([-1], [-3], [-5]), part)
+
+    def test_all_thirteen_calls_in_one_list(self):
+        calls = [start(3), known(2, 2), read((0, 0, 5), (1, 1, 3)), read((0, 1, 2), (1, 1, 9)), read((1, 0, 4)),
+                 drop(3), best(), nth(1), sides(), tie(0, 2), placed(1), blocks(), thrown(),
+                 cost([0, 0, 0], [1, 1, 1]), shows()]
+        self.assertEqual(split(answers(joined(calls))), [
+            [3], [2], [1], [2], [3], [2],
+            [0, 2, 0, 1, 0, 1, 1, 1], [0, 1, 1, 1, 1, 0], [2, 1, 0, 0, 2, 1, 0],
+            [1, 0, 1, 0], [1, 12, 1, 0, 1, 2], [2, 2, 0, 1, 1, 2], [0],
+            [3], [3, 3, 2, 2, 1, 2, 0, 0, 5, 1, 1, 3, 2, 2, 0, 1, 2, 1, 1, 9]])
 
     def test_whole_numbers_and_lists_alone(self):
         given = answers(MANY)
@@ -88,6 +129,8 @@ class WhatItLeavesAlone(unittest.TestCase):
         self.assertEqual(answers([4, 6, 2, 3, 0, 0, 1, 1, 2, 0]), [6, 0, 10, 0, 0, 0, 0, 1, 0, 1, 1, 1, -1])
         answers(joined([known(0, 1), read((1, 1, 9)), best()]))
         self.assertEqual(answers([4, 6, 2, 3, 0, 0, 1]), [6, 0, 10, 0, 0, 0, 0, 1, 0, 1, 1])
+        answers(joined([known(0, 1), read((0, 0, 9), (1, 1, 9)), shows(), blocks(), thrown()]))
+        self.assertEqual(answers([12, 9, 10]), [3, 3, 3, 0, 5, 2, 1, 0, 1, 1, 1, 0])
 
     def test_what_was_given_back_is_the_askers_own(self):
         first = answers(MANY)

@@ -7,6 +7,12 @@ DROP = 3
 BEST = 4
 NTH = 5
 SIDES = 6
+TIE = 7
+PLACED = 8
+BLOCKS = 9
+THROWN = 10
+COST = 11
+SHOWS = 12
 
 PLACES_AT_FIRST = 2
 MOST_PLACES = 6
@@ -15,6 +21,8 @@ HIGHEST_LETTER = 1
 HIGHEST_PRICE = 99
 NUMBERS_IN_A_MARK = 3
 
+BOTH_0 = 0
+BOTH_1 = 1
 ONE_OF_EACH = 2
 NOTHING = 3
 
@@ -63,12 +71,13 @@ class Reading:
 
 
 class Pair:
-    """Two strands, the one that comes first the first, and what they cost."""
+    """Two strands, the one that comes first the first, what each reading costs with them, and all together."""
 
-    def __init__(self, first, second, cost):
+    def __init__(self, first, second, costs):
         self.first = first
         self.second = second
-        self.cost = cost
+        self.costs = costs
+        self.cost = sum(costs)
 
 
 class Session:
@@ -110,12 +119,33 @@ def answer_call(session, tape):
         return answer_read(session, tape.take_row())
     if call == DROP:
         return answer_drop(session, tape.take())
+    return answer_question(session, call, tape)
+
+
+def answer_question(session, call, tape):
+    """Of the calls that change nothing."""
     if call == BEST:
         return answer_best(session)
     if call == NTH:
         return answer_nth(session, tape.take())
     if call == SIDES:
         return answer_sides(session)
+    if call == TIE:
+        place = tape.take()
+        other = tape.take()
+        return answer_tie(session, place, other)
+    if call == PLACED:
+        return answer_placed(session, tape.take())
+    if call == BLOCKS:
+        return answer_blocks(session)
+    if call == THROWN:
+        return answer_thrown(session)
+    if call == COST:
+        strand = tape.take_row()
+        other = tape.take_row()
+        return answer_cost(session, strand, other)
+    if call == SHOWS:
+        return answer_shows(session)
     raise KeyError(call)
 
 
@@ -197,14 +227,102 @@ def answer_sides(session):
     return given
 
 
+def answer_tie(session, place, other):
+    if not session.has_place(place) or not session.has_place(other) or place == other:
+        return [NOT_AS_TOLD]
+    pairs = pairs_with(pairs_with(pairs_that_may_be(session), place, ONE_OF_EACH), other, ONE_OF_EACH)
+    # The strands differ at both places: where one of them has the same letter at both, so has the other.
+    same = [pair for pair in pairs if pair.first[place] == pair.first[other]]
+    crossed = [pair for pair in pairs if pair.first[place] != pair.first[other]]
+    return least_cost_if_any(same) + least_cost_if_any(crossed)
+
+
+def answer_placed(session, place):
+    if not session.has_place(place):
+        return [NOT_AS_TOLD]
+    pairs = pairs_that_may_be(session)
+    given = []
+    for fact in (BOTH_0, BOTH_1, ONE_OF_EACH):
+        given.extend(least_cost_if_any(pairs_with(pairs, place, fact)))
+    return given
+
+
+def answer_blocks(session):
+    least_tied = least_tied_places(session)
+    # A place is the least one of a block just if no lesser one is tied to it.
+    leaders = [place for place in range(len(least_tied)) if least_tied[place] == place]
+    given = [len(leaders)]
+    for leader in leaders:
+        block = [place for place in range(len(least_tied)) if least_tied[place] == leader]
+        given.append(len(block))
+        given.extend(block)
+    return given
+
+
+def answer_thrown(session):
+    # For a pair to cost nothing, just the readings that cost something with it must go: so each pair is one choice.
+    choices = [numbers_that_cost(session.readings, pair) for pair in pairs_that_may_be(session)]
+    fewest = min([len(numbers) for numbers in choices])
+    return [fewest] + min([numbers for numbers in choices if len(numbers) == fewest])
+
+
+def answer_cost(session, strand, other):
+    if not strand_is_as_told(session, strand) or not strand_is_as_told(session, other):
+        return [NOT_AS_TOLD]
+    return [sum(lesser_costs(costs_with(session.readings, strand), costs_with(session.readings, other)))]
+
+
+def answer_shows(session):
+    given = session.facts + [len(session.readings)]
+    for reading in session.readings:
+        given.extend([reading.number, len(reading.marks)])
+        for mark in reading.marks:
+            given.extend([mark.place, mark.letter, mark.price])
+    return given
+
+
 def letters_of(pair):
     return pair.first + pair.second
+
+
+def strand_is_as_told(session, strand):
+    return len(strand) == len(session.facts) and all([letter <= HIGHEST_LETTER for letter in strand])
+
+
+def least_tied_places(session):
+    """Of each place the least place of its block."""
+    least_tied = list(range(len(session.facts)))
+    for reading in session.readings:
+        met = [least_tied[mark.place] for mark in reading.marks]
+        least = min(met)
+        # Whole blocks become one, with places too that this reading doesn't mark.
+        least_tied = [least if leader in met else leader for leader in least_tied]
+    return least_tied
+
+
+def numbers_that_cost(readings, pair):
+    return [reading.number for reading, cost in zip(readings, pair.costs) if cost > 0]
+
+
+def least_cost_if_any(pairs):
+    if len(pairs) == 0:
+        return [0]
+    return [1, least_cost(pairs)]
+
+
+def least_cost(pairs):
+    return min([pair.cost for pair in pairs])
+
+
+def pairs_with(pairs, place, fact):
+    """Those of the pairs that are at that place as the fact says."""
+    return [pair for pair in pairs if letters_fit(fact, pair.first[place], pair.second[place])]
 
 
 def best_pairs(session):
     """The pairs that cost the least, in order; what is known always leaves at least one."""
     pairs = pairs_that_may_be(session)
-    least = min([pair.cost for pair in pairs])
+    least = least_cost(pairs)
     return [pair for pair in pairs if pair.cost == least]
 
 
@@ -217,7 +335,7 @@ def pairs_that_may_be(session):
     for i in range(len(strands)):
         for j in range(i, len(strands)):
             if may_be(session.facts, strands[i], strands[j]):
-                pairs.append(Pair(strands[i], strands[j], cost_of_both(costs[i], costs[j])))
+                pairs.append(Pair(strands[i], strands[j], lesser_costs(costs[i], costs[j])))
     return pairs
 
 
@@ -252,5 +370,5 @@ def reading_cost(reading, strand):
     return sum([mark.price for mark in reading.marks if strand[mark.place] != mark.letter])
 
 
-def cost_of_both(first_costs, second_costs):
-    return sum([min(first, second) for first, second in zip(first_costs, second_costs)])
+def lesser_costs(first_costs, second_costs):
+    return [min(first, second) for first, second in zip(first_costs, second_costs)]
